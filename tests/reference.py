@@ -1,0 +1,241 @@
+"""The definitions of the document, as they stand there, gone through without any closed form."""
+
+import functools
+import itertools
+
+
+def sieve(end):
+    """All primes below end."""
+    marks = [True] * end
+    primes = []
+    for number in range(2, end):
+        if marks[number]:
+            primes.append(number)
+            for multiple in range(number * number, end, number):
+                marks[multiple] = False
+    return primes
+
+
+PRIMES = sieve(10000)
+PRIME_SET = frozenset(PRIMES)
+
+
+def is_int(value):
+    return type(value) is int
+
+
+def is_prime(value):
+    return is_int(value) and value in PRIME_SET
+
+
+def is_set_of(primes, value):
+    """Whether a value is an ascending tuple of some of these primes."""
+    if type(value) is not tuple or not all(is_int(prime) and prime in primes for prime in value):
+        return False
+    return sorted(set(value)) == list(value)
+
+
+def is_table(value):
+    """Whether a value is a table, as [3] says."""
+    if type(value) is not tuple or len(value) != 2 or not all(type(half) is tuple for half in value):
+        return False
+    primes, moves = value
+    if not all(is_prime(prime) for prime in primes) or list(primes) != sorted(set(primes)):
+        return False
+    if not all(type(move) is tuple and len(move) == 2 and is_int(move[0]) for move in moves):
+        return False
+    movers = [move[0] for move in moves]
+    if movers != sorted(set(movers)) or not set(movers) <= set(primes):
+        return False
+    return all(is_row(primes, movers, mover, row) for mover, row in moves)
+
+
+def is_row(primes, movers, mover, row):
+    if type(row) is not tuple or len(row) == 0:
+        return False
+    if not all(type(step) is tuple and len(step) == 2 and is_int(step[0]) and is_int(step[1]) for step in row):
+        return False
+    ones = [step[0] for step in row]
+    if ones != sorted(set(ones)) or not set(ones) <= set(primes) - set(movers):
+        return False
+    return all((q - 1) % mover == 0 and 1 < root < q and pow(root, mover, q) == 1 for q, root in row)
+
+
+def is_thing(table, value):
+    if type(value) is not tuple or len(value) != len(table[0]):
+        return False
+    return all(is_int(rest) and 0 <= rest < prime for rest, prime in zip(value, table[0]))
+
+
+def web(table):
+    return [(mover, moved) for mover, row in table[1] for moved, _ in row]
+
+
+def movers(table):
+    return sorted(mover for mover, _ in table[1])
+
+
+def moved_ones(table):
+    return sorted({moved for _, moved in web(table)})
+
+
+def moved_outside(table, primes):
+    """The moved ones of a set of primes that are not in it."""
+    return sorted({moved for mover, moved in web(table) if mover in primes} - set(primes))
+
+
+def is_part(table, value):
+    """Whether a value is a pair that tells a part, as [5] says."""
+    if type(value) is not tuple or len(value) != 2 or not is_set_of(table[0], value[0]):
+        return False
+    if type(value[1]) is not tuple or not all(type(spot) is tuple and len(spot) == 2 for spot in value[1]):
+        return False
+    if not all(is_int(q) and is_int(spot) for q, spot in value[1]):
+        return False
+    if [q for q, _ in value[1]] != moved_outside(table, value[0]):
+        return False
+    return all(0 <= spot < q for q, spot in value[1])
+
+
+def number(table):
+    total = 1
+    for prime in table[0]:
+        total *= prime
+    return total
+
+
+def all_things(table):
+    return list(itertools.product(*[range(prime) for prime in table[0]]))
+
+
+def nought(table):
+    return (0,) * len(table[0])
+
+
+def factor(table, thing, prime):
+    """The factor of a thing at a prime, as [4] says."""
+    rests = dict(zip(table[0], thing))
+    total = 1
+    for mover, row in table[1]:
+        for moved, root in row:
+            if moved == prime:
+                for _ in range(rests[mover]):
+                    total = total * root % prime
+    return total
+
+
+@functools.lru_cache(maxsize=200000)
+def factors(table, thing):
+    return tuple(factor(table, thing, prime) for prime in table[0])
+
+
+def times(table, thing, other):
+    """The product of two things, as [4] says."""
+    rests = zip(table[0], thing, factors(table, thing), other)
+    return tuple((x + f * y) % prime for prime, x, f, y in rests)
+
+
+def subsets(primes):
+    """All sets of some of these primes, as Python sorts."""
+    return sorted(s for k in range(len(primes) + 1) for s in itertools.combinations(primes, k))
+
+
+def holds(table, part, thing):
+    """Whether a thing is in a part, as [5] says."""
+    primes, spots = part
+    spots = dict(spots)
+    for prime, rest in zip(table[0], thing):
+        if prime in primes:
+            continue
+        if prime in movers(table) or prime not in spots:
+            wanted = 0
+        else:
+            wanted = (spots[prime] - factor(table, thing, prime) * spots[prime]) % prime
+        if rest != wanted:
+            return False
+    return True
+
+
+def told_parts(table):
+    """All pairs that tell parts, as [5] says."""
+    parts = []
+    for primes in subsets(table[0]):
+        outside = moved_outside(table, primes)
+        for spots in itertools.product(*[range(prime) for prime in outside]):
+            parts.append((primes, tuple(zip(outside, spots))))
+    return parts
+
+
+class Group:
+    """The things of a small table with all their products, and all parts, found by trying."""
+
+    def __init__(self, table):
+        self.table = table
+        self.things = all_things(table)
+        self.at = {thing: k for k, thing in enumerate(self.things)}
+        self.rows = [[self.at[times(table, x, y)] for y in self.things] for x in self.things]
+        self.backs = [row.index(0) for row in self.rows]
+
+    def product(self, x, y):
+        return self.things[self.rows[self.at[x]][self.at[y]]]
+
+    def back(self, x):
+        return self.things[self.backs[self.at[x]]]
+
+    def power(self, x, k):
+        """The product of k things like x, of -k backs of it where k is below 0."""
+        base = self.at[x] if k >= 0 else self.backs[self.at[x]]
+        total = 0
+        for _ in range(abs(k)):
+            total = self.rows[total][base]
+        return self.things[total]
+
+    def order(self, x):
+        at = total = self.at[x]
+        steps = 1
+        while total != 0:
+            total = self.rows[total][at]
+            steps += 1
+        return steps
+
+    def turned(self, x, other):
+        return self.product(self.product(other, x), self.back(other))
+
+    def closure(self, things):
+        """The least set of things with nought, these, and all products."""
+        makers = [self.at[thing] for thing in things]
+        found = {0}
+        late = [0]
+        while late:
+            row = self.rows[late.pop()]
+            for maker in makers:
+                if row[maker] not in found:
+                    found.add(row[maker])
+                    late.append(row[maker])
+        return frozenset(self.things[k] for k in found)
+
+    @functools.cached_property
+    def parts(self):
+        """All sets of things that are parts, found by adding things one by one."""
+        start = self.closure(())
+        found = {start: ()}
+        late = [start]
+        while late:
+            part = late.pop()
+            done = set(part)
+            for thing in self.things:
+                if thing in done:
+                    continue
+                makers = found[part] + (thing,)
+                greater = self.closure(makers)
+                # Things that make the same part with this one need not be tried again.
+                done.add(thing)
+                if greater not in found:
+                    found[greater] = makers
+                    late.append(greater)
+        return frozenset(found)
+
+
+@functools.lru_cache(maxsize=None)
+def group(table):
+    return Group(table)

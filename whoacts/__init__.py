@@ -1,0 +1,1 @@
+"""Whoacts: groups of square-free numbers, and who moves whom."""
