@@ -100,8 +100,9 @@ class Texts(Case):
             self.same(table_read(text=written(table)), table)
 
     def test_more_than_eight_primes(self):
-        primes = tuple(reference.PRIMES)
+        primes = tuple(reference.PRIMES[:200])
         table = (primes, ((2, tuple((q, q - 1) for q in primes[1:])),))
+        self.assertLess(len(written(table)), 4000)
         self.same(table_read(table_text(table)), table)
 
     def test_the_empty_table(self):

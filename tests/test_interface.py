@@ -1,0 +1,78 @@
+"""The interface: each name stands in its file, with its parameters in their order."""
+
+import importlib
+import inspect
+import unittest
+
+ERRORS = ("ActError PaperError TableError LiveError TextError InvalidPaper NotUsable InvalidEvent NothingToUndo "
+          "InvalidText InvalidRow")
+FUNCTIONS = {
+    "kinds": "is_integer(value) is_number(value) is_prime(value) is_table(value) is_web(value)",
+    "tablechecker": "lets_table(value)",
+    "tableparts": "number_of(table) web_of(table) movers_of(table) moved_of(table) still_of(table) row_of(table,mover)",
+    "tablechanges": "with_prime(table,prime) with_move(table,mover,moved,root) without_move(table,mover,moved) "
+                    "powered(table,mover,k) cut_to(table,primes) joined(table,other) pieces_of(table)",
+    "tabletexts": "table_text(table)",
+    "tablereadings": "table_read(text)",
+    "things": "is_thing(table,value) nought_of(table) product_of(table,*things) back_of(table,thing) "
+              "power_of(table,thing,k) order_of(table,thing) factor_of(table,thing,prime)",
+    "exchanging": "turned_by(table,thing,other) are_exchanged(table,thing,other) exchanger_of(table,thing,other)",
+    "rooting": "root_count(table,thing,k) any_root(table,thing,k) nought_roots(table,k)",
+    "orders": "things_of_order(table,primes) orders_of(table)",
+    "parts": "is_part(table,value) size_of(table,part) holds(table,part,thing) things_of(table,part)",
+    "partsmade": "part_of(table,things) meet_of(table,part,other) join_of(table,part,other) "
+                 "turned_part(table,part,thing)",
+    "wholeparts": "is_whole(table,part) core_of(table,part) hull_of(table,part) kept_by(table,part) "
+                  "still_for(table,part)",
+    "leftover": "left_of(table,part) image_of(table,part,thing) table_of_part(table,part) "
+                "within_part(table,part,thing)",
+}
+CLASSES = {
+    ("tableclasses", "Table", "(primes,*rows)"): {
+        "read": "(text)", "table_now": None, "primes_now": None, "web_now": None, "__getitem__": "(at)",
+        "__contains__": "(x)", "__iter__": "()", "__len__": "()", "__str__": "()", "__eq__": "(other)",
+        "__and__": "(other)", "__or__": "(other)"},
+    ("thingclasses", "Thing", "(table,rests)"): {
+        "nought": "(table)", "table_now": None, "rests_now": None, "order_now": None, "raised": "(k)",
+        "turned": "(other)", "__mul__": "(other)", "__neg__": "()", "__getitem__": "(at)", "__contains__": "(x)",
+        "__iter__": "()", "__len__": "()", "__str__": "()", "__eq__": "(other)"},
+}
+
+
+def parameters(call):
+    return str(inspect.signature(call)).replace(" ", "")
+
+
+class Interface(unittest.TestCase):
+    def test_functions(self):
+        for name, told in FUNCTIONS.items():
+            module = importlib.import_module("whoacts." + name)
+            for entry in told.split():
+                word, _, rest = entry.partition("(")
+                call = getattr(module, word)
+                self.assertTrue(inspect.isfunction(call), entry)
+                self.assertEqual(call.__module__, "whoacts." + name)
+                self.assertEqual(parameters(call), "(" + rest)
+
+    def test_errors(self):
+        module = importlib.import_module("whoacts.errors")
+        for word in ERRORS.split():
+            self.assertTrue(inspect.isclass(getattr(module, word)))
+            self.assertEqual(getattr(module, word).__module__, "whoacts.errors")
+
+    def test_classes(self):
+        for (name, word, told), methods in CLASSES.items():
+            made = getattr(importlib.import_module("whoacts." + name), word)
+            self.assertEqual(made.__module__, "whoacts." + name)
+            self.assertEqual(parameters(made), told)
+            for method, rest in methods.items():
+                self.assertIn(method, vars(made))
+                if rest is None:
+                    self.assertIsInstance(vars(made)[method], property)
+                else:
+                    shown = parameters(getattr(made, method))
+                    self.assertEqual(shown.replace("(self,", "(").replace("(self)", "()"), rest, (word, method))
+
+
+if __name__ == "__main__":
+    unittest.main()
