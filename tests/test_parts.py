@@ -51,7 +51,9 @@ class IsPart(Case):
     def test_any_value(self):
         for table in samples.DOCUMENT:
             for value in wrong.any_values():
+                before = repr(value)
                 self.same(is_part(table, value), reference.is_part(table, value), value)
+                self.assertEqual(repr(value), before)
 
     def test_wrong_inputs(self):
         takes = {"table": wrong.table, "value": wrong.judged}
@@ -150,6 +152,17 @@ class Parts(Case):
                 for other in parts:
                     self.same(meet_of(table, part, other), meet_of(samples.TWO, part, other))
                     self.same(join_of(table, part, other), join_of(samples.TWO, part, other))
+
+    def test_great_tables_with_one_web_have_the_same_parts(self):
+        table = samples.GREAT[1]
+        other = samples.great_table(table[0], reference.web(table), 2)
+        self.assertNotEqual(table, other)
+        parts = some_parts(table)
+        for part in parts:
+            self.same(is_part(other, part), True)
+            for late in parts[::3]:
+                self.same(meet_of(other, part, late), meet_of(table, part, late))
+                self.same(join_of(other, part, late), join_of(table, part, late))
 
     def test_wrong_inputs(self):
         takes = {"table": wrong.table, "part": wrong.part, "thing": wrong.thing}

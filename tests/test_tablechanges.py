@@ -22,7 +22,7 @@ def refusal(word):
 
 def move_fault(table, mover, moved, root):
     """The parameter of with_move that is refused first, as [17] says, or None."""
-    primes, moves = table
+    primes = table[0]
     if type(mover) is not int or mover not in primes or mover in reference.moved_ones(table):
         return "mover"
     if type(moved) is not int or moved not in primes or moved == mover or moved in reference.movers(table):

@@ -197,6 +197,12 @@ class Texts(Case):
                 self.judged(text[:k] + text[k + 1:])
                 self.judged(text[:k])
 
+    def test_each_character_as_a_word_and_in_a_word(self):
+        for sign in [chr(code) for code in range(32, 127) if chr(code) != "%"] + ["\n"]:
+            for text in ("{}", "2{}", "{}2", "2 {}", "2 3{}", "2 3 / {}", "2 3 / 2{}", "2 3 / 2: {}", "2 3 / 2: 3{}2",
+                         "2 3 / 2: 3^{}", "2 3 / 2: {}^2", "2 3 / 2: 3^2{}", "2 3 / 2: 3^2 {}", "{}2 3", "2{}3"):
+                self.judged(text.replace("{}", sign))
+
     def test_all_words_taken_out_doubled_or_changed_in_place(self):
         for text in ("2 3 5 7 11 / 2: 5^4 7^6 / 3: 7^2", "2 3 7 13 / 2: 3^2 7^6", "5 11 31 / 5: 11^3 31^2"):
             words = text.split(" ")

@@ -40,7 +40,9 @@ class IsThing(Case):
     def test_any_value(self):
         for table in samples.DOCUMENT:
             for value in wrong.any_values():
+                before = repr(value)
                 self.same(is_thing(table, value), reference.is_thing(table, value), value)
+                self.assertEqual(repr(value), before)
         self.same([is_thing(samples.NONE, ()), is_thing(samples.NONE, []), is_thing(samples.NONE, None)],
                   [True, False, False])
 

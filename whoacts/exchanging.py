@@ -1,7 +1,7 @@
 """Turned things, and which things can be exchanged."""
 
 from whoacts.tableneeds import need_table
-from whoacts.thingneeds import need_other_thing, need_thing
+from whoacts.thingneeds import need_thing
 from whoacts.thingwork import back_to, times, turn
 
 
@@ -9,7 +9,7 @@ def need_two_things(table, thing, other):
     """Refuse the first of three values that is no table, or no thing of it."""
     need_table(table)
     need_thing(table, thing)
-    need_other_thing(table, other)
+    need_thing(table, other, "other")
 
 
 def turned_by(table, thing, other):

@@ -21,16 +21,10 @@ def is_spot_at(prime, value):
     return is_integer_pair(value) and value[0] == prime and 0 <= value[1] < prime
 
 
-def need_part(table, part):
-    """Refuse any value that tells no part of the table."""
+def need_part(table, part, word="part"):
+    """Refuse any value that tells no part of the table; word is the name of the parameter."""
     if not is_part_of(table, part):
-        raise NotUsable("part", -1)
-
-
-def need_other_part(table, other):
-    """Refuse any value, called other, that tells no part of the table."""
-    if not is_part_of(table, other):
-        raise NotUsable("other", -1)
+        raise NotUsable(word, -1)
 
 
 def need_whole_part(table, part):

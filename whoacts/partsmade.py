@@ -1,6 +1,6 @@
 """Parts made of things and of other parts."""
 
-from whoacts.partneeds import need_other_part, need_part
+from whoacts.partneeds import need_part
 from whoacts.partwork import join_parts, least_part, meet_parts, turn_part
 from whoacts.tableneeds import need_table
 from whoacts.thingneeds import need_thing, need_tuple_of_things
@@ -17,7 +17,7 @@ def meet_of(table, part, other):
     """Return the part of the things that both parts have."""
     need_table(table)
     need_part(table, part)
-    need_other_part(table, other)
+    need_part(table, other, "other")
     return meet_parts(table, part, other)
 
 
@@ -25,7 +25,7 @@ def join_of(table, part, other):
     """Return the least part that holds the things of both parts."""
     need_table(table)
     need_part(table, part)
-    need_other_part(table, other)
+    need_part(table, other, "other")
     return join_parts(table, part, other)
 
 

@@ -1,7 +1,7 @@
 """Work on parts that are known to be parts: nothing is checked here."""
 
 from whoacts.arithmetic import inverse_modulo
-from whoacts.tablelooks import moved_by, movers_in, row_in
+from whoacts.tablelooks import moved_by, row_in
 from whoacts.thingwork import factors_at
 
 
@@ -38,13 +38,12 @@ def things_in(table, part):
 
 def least_part(table, things):
     """Return the least part that holds all these things, a tuple of things."""
-    movers = movers_in(table)
     factors = [factors_at(table, thing) for thing in things]
     primes = []
     spots = {}
     for at, prime in enumerate(table[0]):
         spot = common_spot([(thing[at], held[prime]) for thing, held in zip(things, factors)], prime)
-        # At a mover all factors are 1, so its spot is None or 0, as some rest is not 0 or all are.
+        # At a mover all factors are 1, so there is no such number exactly if some rest is not 0.
         if spot is None:
             primes.append(prime)
         else:

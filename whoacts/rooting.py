@@ -1,10 +1,10 @@
 """Powers told back: which things, and how many, have a thing as their power."""
 
 from whoacts.arithmetic import inverse_modulo, product_over, subsets_of
-from whoacts.tablelooks import movers_in
+from whoacts.tablelooks import moved_by, movers_in
 from whoacts.tableneeds import need_positive, need_table
 from whoacts.thingneeds import need_thing
-from whoacts.thingwork import factors_at, is_moved_by_one, moving_in, nought_in, series_modulo
+from whoacts.thingwork import factors_at, moving_in, nought_in, series_modulo
 
 
 def root_count(table, thing, k):
@@ -50,25 +50,19 @@ def count_roots(table, thing, k):
     if any([mover in held for mover in free]):
         return 0
     # At the movers that divide k any rest leads to 0; elsewhere a root has the rest 0 where the thing has it.
-    total = 0
-    for chosen in subsets_of(free):
-        total = total + count_moved_so(table, thing, k, chosen)
-    return total
+    return sum([count_moved_so(table, thing, k, held, chosen) for chosen in subsets_of(free)])
 
 
-def count_moved_so(table, thing, k, chosen):
-    """Return how many of the roots have, of the movers that divide k, just at the chosen ones a rest not 0."""
-    held = moving_in(table, thing)
+def count_moved_so(table, thing, k, held, chosen):
+    """Return how many of the roots have, of the movers that divide k, just at the chosen ones a rest not 0.
+
+    The movers at which the thing's rest is not 0 are held: where one of these moves a prime, a root has just one rest.
+    """
     movers = movers_in(table)
+    settled = moved_by(table, held)
+    cleared = moved_by(table, chosen)
     counts = [mover - 1 for mover in chosen]
     for prime, rest in zip(table[0], thing):
-        if prime not in movers and is_free_at(table, prime, k, held, chosen):
+        if prime not in movers and prime not in settled and (k % prime == 0 or prime in cleared):
             counts.append(prime if rest == 0 else 0)
     return product_over(counts)
-
-
-def is_free_at(table, prime, k, held, chosen):
-    """Return whether a root with a rest not 0 at these movers has at the prime a power with the rest 0."""
-    if is_moved_by_one(table, prime, held):
-        return False
-    return k % prime == 0 or is_moved_by_one(table, prime, chosen)

@@ -38,7 +38,7 @@ def may_be_moved(table, mover, moved):
 def with_row(table, mover, row):
     """Return the table with this row of the mover in the place of the one it has, if it has one."""
     others = [move for move in table[1] if move[0] != mover]
-    return with_rows(table[0], sorted(others + [(mover, tuple(row))]))
+    return with_rows(table[0], sorted(others + [(mover, row)]))
 
 
 def without_move(table, mover, moved):

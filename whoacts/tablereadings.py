@@ -103,9 +103,8 @@ def read_step(word):
 
 
 def small_number(word):
-    """Return the number that a word of at most four digits writes, None for any other word."""
+    """Return the number from 1 on that a word of at most four digits writes, None for any other word."""
     if word == "" or len(word) > MOST_DIGITS or not all([sign in DIGITS for sign in word]):
         return None
-    if word[0] == "0" and word != "0":
-        return None
-    return int(word)
+    # No number of a table is 0, so no word that begins so can stand.
+    return None if word[0] == "0" else int(word)

@@ -3,7 +3,7 @@
 from whoacts.errors import NotUsable
 from whoacts.kinds import is_integer_pair
 from whoacts.tableneeds import need_integer, need_prime_of, need_table
-from whoacts.thingneeds import is_thing_of
+from whoacts.thingneeds import need_thing
 from whoacts.things import nought_of
 from whoacts.thingwork import back_to, order_in, raised_to, times, turn
 
@@ -13,8 +13,7 @@ class Thing:
 
     def __init__(self, table, rests):
         need_table(table)
-        if not is_thing_of(table, rests):
-            raise NotUsable("rests", -1)
+        need_thing(table, rests, "rests")
         self._table = table
         self._rests = rests
         self._pairs = tuple(zip(table[0], rests))

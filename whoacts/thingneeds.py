@@ -11,16 +11,10 @@ def is_thing_of(table, value):
     return all([is_number(rest) and rest < prime for prime, rest in zip(table[0], value)])
 
 
-def need_thing(table, thing):
-    """Refuse any value that is no thing of the table."""
+def need_thing(table, thing, word="thing"):
+    """Refuse any value that is no thing of the table; word is the name of the parameter."""
     if not is_thing_of(table, thing):
-        raise NotUsable("thing", -1)
-
-
-def need_other_thing(table, other):
-    """Refuse any value, called other, that is no thing of the table."""
-    if not is_thing_of(table, other):
-        raise NotUsable("other", -1)
+        raise NotUsable(word, -1)
 
 
 def need_all_things(table, things):

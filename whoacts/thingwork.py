@@ -1,7 +1,7 @@
 """Work on things that are known to be things: nothing is checked here."""
 
 from whoacts.arithmetic import inverse_modulo, power_modulo, product_over
-from whoacts.tablelooks import movers_in, row_in
+from whoacts.tablelooks import movers_in
 
 
 def factors_at(table, thing):
@@ -62,8 +62,3 @@ def moving_in(table, thing):
     """Return the set of the movers at which the rest of a thing is not 0."""
     rests = dict(zip(table[0], thing))
     return tuple([mover for mover in movers_in(table) if rests[mover] != 0])
-
-
-def is_moved_by_one(table, prime, movers):
-    """Return whether one of these movers moves the prime."""
-    return any([moved == prime for mover in movers for moved, _ in row_in(table, mover)])
