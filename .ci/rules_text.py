@@ -82,7 +82,7 @@ def strings(package, module):
             yield "L27", line, "a percent sign in a string"
         if re.search(r"\\[^nt\\\"']", text) and not text.startswith("b"):
             yield "L27", line, "an escape"
-        if re.match(r"(?i)[ru]|.[ru][\"']", text) and token.type == tokenize.STRING:
+        if re.match(r"(?i)[a-z]?[ru][a-z]?[\"']", text) and token.type == tokenize.STRING:
             yield "L27", line, "a prefix of a string other than f and b"
     for node in ast.walk(module.tree):
         if isinstance(node, ast.Constant) and isinstance(node.value, str):

@@ -142,6 +142,18 @@ def calls(package, module):
             yield from called_method(package, node)
         if isinstance(node.func, ast.Constant):
             yield "L7", node.lineno, "a literal is called"
+        starred = [part.value for part in node.args if isinstance(part, ast.Starred)]
+        if not all(is_plainly_starred(value) for value in starred):
+            yield "L7", node.lineno, "a star over something that is no name, attribute, list or tuple"
+
+
+def is_plainly_starred(value):
+    """Whether a value may stand behind a star: a name, an attribute of a name, a literal, a list or tuple of these."""
+    if isinstance(value, ast.Attribute):
+        return isinstance(value.value, ast.Name)
+    if isinstance(value, (ast.List, ast.Tuple)):
+        return all(is_plainly_starred(part) for part in value.elts)
+    return isinstance(value, (ast.Name, ast.Constant))
 
 
 def is_kept(node):

@@ -52,6 +52,8 @@ BROKEN = (
     ("L6", "async def told(x):\n    return x\n"),
     ("L7", DEF + "return 1.5\n"),
     ("L7", DEF + "return x / 2\n"),
+    ("L7", DEF + "return told(*x[0])\n"),
+    ("L27", DEF + "return r'a'\n"),
     ("L7", DEF + "return any(y for y in x)\n"),
     ("L7", DEF + "return max((y := x), 1)\n"),
     ("L8", DEF + "return hash(x)\n"),

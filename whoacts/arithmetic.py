@@ -1,4 +1,6 @@
-"""Products and powers of integers."""
+"""Products, powers and shares of integers."""
+
+from math import gcd
 
 
 def product_over(numbers):
@@ -24,6 +26,23 @@ def power_modulo(base, exponent, modulus):
 def inverse_modulo(number, prime):
     """Return what times the number leaves 1 modulo the prime, which does not divide it."""
     return power_modulo(number, prime - 2, prime)
+
+
+def power_exact(base, exponent):
+    """Return the base to a power from 0 on."""
+    return product_over([base for _ in range(exponent)])
+
+
+def lowest_terms(top, bottom):
+    """Return the fraction of two numbers, the second not 0, without a common divisor above 1."""
+    common = gcd(top, bottom)
+    return (top // common, bottom // common)
+
+
+def factors_told(primes, number):
+    """Return the set of those of the primes whose product is the number, None if there is none."""
+    found = tuple([prime for prime in primes if number % prime == 0])
+    return found if product_over(found) == number else None
 
 
 def subsets_of(primes):

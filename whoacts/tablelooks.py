@@ -26,6 +26,16 @@ def moved_by(table, primes):
     return tuple([prime for prime in table[0] if prime in found])
 
 
+def moving(table, primes):
+    """Return the set of the movers that move one of these primes."""
+    return tuple([mover for mover, row in table[1] if any([moved in primes for moved, _ in row])])
+
+
+def roots_at(table, prime):
+    """Return the list of pairs (mover, root) of the movers that move this prime."""
+    return [(mover, root) for mover, row in table[1] for moved, root in row if moved == prime]
+
+
 def moved_in(table):
     """Return the set of the primes that are moved."""
     return moved_by(table, table[0])

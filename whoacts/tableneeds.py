@@ -1,7 +1,7 @@
 """What functions need of their parameters: tables, their primes, and integers."""
 
 from whoacts.errors import NotUsable
-from whoacts.kinds import is_integer, is_table
+from whoacts.kinds import is_integer, is_number, is_table
 from whoacts.tablelooks import movers_in
 
 
@@ -52,3 +52,15 @@ def need_positive(k):
     """Refuse any value that is no integer from 1 on."""
     if not is_integer(k) or k < 1:
         raise NotUsable("k", -1)
+
+
+def need_number(value, word):
+    """Refuse any value that is no number; word is the name of the parameter."""
+    if not is_number(value):
+        raise NotUsable(word, -1)
+
+
+def need_table_beside(table, other):
+    """Refuse any value that is no table with the primes of the table."""
+    if not is_table(other) or other[0] != table[0]:
+        raise NotUsable("other", -1)

@@ -42,6 +42,11 @@ def still_for(table, part):
     """Return the part of the things that can be exchanged with each thing of the part."""
     need_table(table)
     need_part(table, part)
+    return still_part(table, part)
+
+
+def still_part(table, part):
+    """Return the part of the things that can be exchanged with each thing of the part."""
     primes = tuple([prime for prime in table[0] if is_still_for(table, part, prime)])
     return part_with(table, primes, dict(part[1]))
 
