@@ -97,6 +97,17 @@ def is_part(table, value):
     return all(0 <= spot < q for q, spot in value[1])
 
 
+def is_web(primes, value):
+    """Whether a value is the web of some table with these primes, as [59] says."""
+    if type(value) is not tuple or not all(type(pair) is tuple and len(pair) == 2 for pair in value):
+        return False
+    if not all(is_int(each) and each in primes for pair in value for each in pair):
+        return False
+    if list(value) != sorted(set(value)) or {p for p, _ in value} & {q for _, q in value}:
+        return False
+    return all((q - 1) % p == 0 for p, q in value)
+
+
 def number(table):
     total = 1
     for prime in table[0]:
@@ -133,6 +144,26 @@ def times(table, thing, other):
     """The product of two things, as [4] says."""
     rests = zip(table[0], thing, factors(table, thing), other)
     return tuple((x + f * y) % prime for prime, x, f, y in rests)
+
+
+def power(table, thing, k):
+    """The product of k things like it, k from 0 on, by doubling."""
+    total = nought(table)
+    for digit in bin(k)[2:]:
+        total = times(table, total, total)
+        if digit == "1":
+            total = times(table, total, thing)
+    return total
+
+
+def integer_power(table, thing, k):
+    """A power to any integer: as the power to n is nought, that to the rest of k modulo n."""
+    return power(table, thing, k % number(table))
+
+
+def is_order_divided(table, thing, prime):
+    """Whether a prime of the table divides the order of a thing."""
+    return power(table, thing, number(table) // prime) != nought(table)
 
 
 def subsets(primes):
@@ -200,6 +231,61 @@ class Group:
 
     def turned(self, x, other):
         return self.product(self.product(other, x), self.back(other))
+
+    @functools.cached_property
+    def class_at(self):
+        """For each index of a thing the least index of its class."""
+        found = [None] * len(self.things)
+        for x in range(len(self.things)):
+            if found[x] is None:
+                for y, row in enumerate(self.rows):
+                    found[self.rows[row[x]][self.backs[y]]] = x
+        return found
+
+    @functools.cached_property
+    def classes(self):
+        """For each thing the sorted list of the things of its class."""
+        rows = {}
+        for k, least in enumerate(self.class_at):
+            rows.setdefault(least, []).append(self.things[k])
+        return {thing: rows[least] for thing, least in zip(self.things, self.class_at)}
+
+    @functools.cached_property
+    def fellows(self):
+        """For each thing the set of those that can be exchanged with it."""
+        many = range(len(self.things))
+        return {self.things[x]: frozenset(self.things[y] for y in many if self.rows[x][y] == self.rows[y][x])
+                for x in many}
+
+    @functools.cached_property
+    def exchangers(self):
+        """How many pairs of things have each thing as their exchanger."""
+        count = [0] * len(self.things)
+        for x, row in enumerate(self.rows):
+            for y, at in enumerate(row):
+                count[self.rows[self.rows[at][self.backs[x]]][self.backs[y]]] += 1
+        return dict(zip(self.things, count))
+
+    @functools.cached_property
+    def turns(self):
+        """For each index y a dict that tells for how many x the thing x y back of x has each index."""
+        found = []
+        for y in range(len(self.things)):
+            count = {}
+            for x, row in enumerate(self.rows):
+                at = self.rows[row[y]][self.backs[x]]
+                count[at] = count.get(at, 0) + 1
+            found.append(count)
+        return found
+
+    def twisted(self, ends):
+        """For each r less than ends, in order, how many pairs x, y there are for which x y is y^r x."""
+        powers = [0] * len(self.things)
+        counts = []
+        for _ in range(ends):
+            counts.append(sum(self.turns[y].get(powers[y], 0) for y in range(len(powers))))
+            powers = [self.rows[at][y] for y, at in enumerate(powers)]
+        return counts
 
     def closure(self, things):
         """The least set of things with nought, these, and all products."""

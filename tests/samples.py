@@ -13,6 +13,9 @@ NONE = ((), ())
 THREE = ((2, 3, 5, 31), ((2, ((31, 30),)), (3, ((31, 5),)), (5, ((31, 2),))))
 # One mover of three primes, and a mover of one of them.
 WIDE = ((2, 3, 5, 7), ((2, ((3, 2), (5, 4), (7, 6))),))
+# Two movers, each of the same two primes, by roots that are up to a power and that are not.
+PAIRED = ((2, 3, 7, 13), ((2, ((7, 6), (13, 12))), (3, ((7, 2), (13, 3)))))
+PARTED = ((2, 3, 7, 13), ((2, ((7, 6), (13, 12))), (3, ((7, 2), (13, 9)))))
 
 
 def roots(mover, moved):
@@ -67,6 +70,15 @@ MIDDLE = tuple(all_tables((2, 3, 11))[::2] + all_tables((3, 5, 7))[::2] + all_ta
 def great_table(primes, pairs, k=1):
     """The table of this web, each root the k-th power of the first one found."""
     return table_of(primes, [(p, q, some_root(p, q, k)) for p, q in pairs])
+
+
+def other_roots(table, seed=1):
+    """A table with the same web, by other roots where a mover has others."""
+    moves = []
+    for mover, row in table[1]:
+        powers = [1 + (seed + k) % (mover - 1) for k in range(len(row))]
+        moves.append((mover, tuple((q, pow(root, power, q)) for (q, root), power in zip(row, powers))))
+    return (table[0], tuple(moves))
 
 
 GREAT = (

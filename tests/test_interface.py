@@ -26,6 +26,27 @@ FUNCTIONS = {
                   "still_for(table,part)",
     "leftover": "left_of(table,part) image_of(table,part,thing) table_of_part(table,part) "
                 "within_part(table,part,thing)",
+    "partorders": "lies_in(table,part,other) part_turner(table,part,other) how_many_turned(table,part) "
+                  "greatest_parts(table) chain_to(table,part)",
+    "partpapers": "made_paper(table,things)",
+    "partchecker": "lets_made(table,things,paper)",
+    "classes": "class_size(table,thing) exchange_count(table,thing) in_one_class(table,thing,other) "
+               "turner_of(table,thing,other) class_form(table,thing)",
+    "classcounts": "class_count(table) classes_of(table) exchanged_pairs(table) chance_of(table) centre_primes(table)",
+    "exchangerows": "exchanged_rows(table,k) exchanged_with(table,*things)",
+    "twisting": "exchanger_pairs(table,thing) twisted_count(table,r)",
+    "classpapers": "class_paper(table,thing,other)",
+    "classchecker": "lets_class(table,thing,other,paper)",
+    "counts": "part_count(table,primes) whole_count(table,primes) all_parts(table) all_whole(table) "
+              "degrees_of(table) turning_count(table)",
+    "allcounts": "counts_of(table) counts_alike(table,other) first_apart(table,other)",
+    "toldback": "web_by_parts(primes,numbers) web_by_orders(primes,numbers) web_by_wholes(primes,numbers) "
+                "web_by_sizes(primes,pairs) web_by_degrees(primes,pairs)",
+    "twistsapart": "twist_apart(table,other)",
+    "webcounts": "fits_web(primes,web) a_table(primes,web) unlike_count(primes,web) webs_of(primes) group_count(primes)",
+    "making": "makes(table,things) rows_that_make(table,many) chance_to_make(table,many) fewest_makers(table) "
+              "makers_of(table)",
+    "rowsmake": "rows_in(table,part,many) rows_by_divisor(table,many)",
 }
 CLASSES = {
     ("tableclasses", "Table", "(primes,*rows)"): {
@@ -36,6 +57,9 @@ CLASSES = {
         "nought": "(table)", "table_now": None, "rests_now": None, "order_now": None, "raised": "(k)",
         "turned": "(other)", "__mul__": "(other)", "__neg__": "()", "__getitem__": "(at)", "__contains__": "(x)",
         "__iter__": "()", "__len__": "()", "__str__": "()", "__eq__": "(other)"},
+    ("countclasses", "Counts", "(table)"): {
+        "table_now": None, "counts_now": None, "web_now": None, "many": "()", "unlike": "()", "__getitem__": "(at)",
+        "__iter__": "()", "__len__": "()", "__eq__": "(other)"},
 }
 
 

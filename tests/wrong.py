@@ -126,6 +126,49 @@ def positive(_, value):
     return reference.is_int(value) and value > 0
 
 
+def number(_, value):
+    return reference.is_int(value) and value >= 0
+
+
+def up_to_eight(_, value):
+    return reference.is_int(value) and 0 <= value <= 8
+
+
+def many(_, value):
+    """None tells that a number is beyond the limit: such a call is neither refused nor has it an end."""
+    return None if reference.is_int(value) and value > 40 else number(_, value)
+
+
+def table_beside(known, value):
+    return reference.is_table(value) and value[0] == known["table"][0]
+
+
+def prime_set(_, value):
+    return type(value) is tuple and len(value) <= 8 and reference.is_set_of(reference.PRIME_SET, value)
+
+
+def web(known, value):
+    return reference.is_web(known["primes"], value)
+
+
+def numbers_each(known, value):
+    return type(value) is tuple and len(value) == len(known["primes"]) and all(number(known, each) for each in value)
+
+
+def set_of_sets(known, value):
+    if type(value) is not tuple or not all(reference.is_set_of(known["primes"], each) for each in value):
+        return False
+    return sorted(set(value)) == list(value)
+
+
+def set_of_pairs(_, value):
+    if type(value) is not tuple or not all(type(pair) is tuple and len(pair) == 2 for pair in value):
+        return False
+    if not all(reference.is_int(each) and each > 0 for pair in value for each in pair):
+        return False
+    return sorted(set(value)) == list(value)
+
+
 def judged(_, value):
     return True
 
@@ -143,7 +186,10 @@ def check_refusals(case, call, args, takes):
         for value in any_values():
             given = [args[key] for key in names]
             given[at] = value
-            if takes[name](ahead, value):
+            taken = takes[name](ahead, value)
+            if taken is None:
+                continue
+            if taken:
                 check_taken(case, call, dict(zip(names, given)), name)
                 continue
             fields = {"word": name, "at": -1}
@@ -152,6 +198,22 @@ def check_refusals(case, call, args, takes):
             for late in (None, [], True, (value,)):
                 behind = given[:at + 1] + [late] * (len(names) - at - 1)
                 case.raises(NotUsable, fields, call, *behind)
+
+
+def check_refused_things(case, call, table, good):
+    """Of things that are handed in one by one the first wrong one is told by its index, behind the table."""
+    from whoacts.errors import NotUsable
+
+    for value in any_values():
+        if not reference.is_table(value):
+            for things in ((), good, (None,), (value, value)):
+                case.raises(NotUsable, {"word": "table", "at": -1}, call, value, *things)
+        if reference.is_thing(table, value):
+            call(table, *good, value)
+            continue
+        for k in range(len(good) + 1):
+            for late in (good[k:], (None,), ([],) + good, (value, True)):
+                case.raises(NotUsable, {"word": "things", "at": k}, call, table, *good[:k], value, *late)
 
 
 def check_taken(case, call, given, name):
