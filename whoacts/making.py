@@ -39,6 +39,6 @@ def makers_of(table):
     """Return any tuple of as few things as make the whole."""
     need_table(table)
     moved_ones = moved_in(table)
-    movers = tuple([0 if prime in moved_ones else 1 for prime in table[0]])
-    others = tuple([1 - rest for rest in movers])
-    return (movers, others)[:fewest_in(table)]
+    first = tuple([0 if prime in moved_ones else 1 for prime in table[0]])
+    makers = (first, tuple([1 - rest for rest in first]))
+    return makers[:fewest_in(table)]
