@@ -19,7 +19,7 @@ def quotient(rest, late, prime):
 
 
 def powers_at(table, prime, value):
-    """Return the list of pairs (mover, power) of the movers of the prime whose roots to these powers have the product.
+    """Return the list of pairs (mover, power), one for each mover of the prime: the value is the product of their roots.
 
     It is None if the value is no such product, modulo the prime; where no mover moves it, if the value is not 1.
     """
@@ -112,8 +112,8 @@ def least_at(table, prime, rest, settled):
         powers = [settled[mover]] if mover in settled else list(range(mover))
         steps = [(power_modulo(root, power, prime), (mover, power)) for power in powers]
         choices = [(x * turn % prime, told + (pair,)) for x, told in choices for turn, pair in steps]
-    least, told = min(choices)
-    return (least, dict(told))
+    least, found = min(choices)
+    return (least, dict(found))
 
 
 def size_of_class(table, thing):
