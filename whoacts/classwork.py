@@ -19,7 +19,7 @@ def quotient(rest, late, prime):
 
 
 def powers_at(table, prime, value):
-    """Return the list of pairs (mover, power), one for each mover of the prime: the value is the product of their roots.
+    """Return the list of pairs (mover, power) of the prime: the value is the product of the roots to these powers.
 
     It is None if the value is no such product, modulo the prime; where no mover moves it, if the value is not 1.
     """
