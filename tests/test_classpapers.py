@@ -16,6 +16,7 @@ from whoacts.exchanging import turned_by
 SMALL = samples.SMALL + samples.MIDDLE[:4]
 ALL = SMALL + samples.GREAT + samples.DOCUMENT + (samples.PAIRED, samples.PARTED)
 SIZES = {"same": 2, "mover": 2, "away": 2, "unlike": 4}
+REFUSED = {"same": "turner", "mover": "mover", "away": "away", "unlike": "unlike"}
 
 
 @functools.lru_cache(maxsize=None)
@@ -46,7 +47,7 @@ def is_let(table, thing, other, paper):
     if type(paper) is not tuple or not paper or type(paper[0]) is not str or SIZES.get(paper[0]) != len(paper):
         return "shape"
     told = {"same": tells_same, "mover": tells_mover, "away": tells_away, "unlike": tells_unlike}[paper[0]]
-    return paper[0] == "same" if told(table, thing, other, *paper[1:]) else paper[0]
+    return paper[0] == "same" if told(table, thing, other, *paper[1:]) else REFUSED[paper[0]]
 
 
 def tells_same(table, thing, other, turner):
@@ -202,6 +203,15 @@ class Papers(Case):
         # 7 is not free: the rest at 3, which moves it, is not 0.
         self.raises(InvalidPaper, {"word": "away", "at": -1}, lets_class, table, (0, 1, 1, 0, 4), (0, 1, 1, 3, 4),
                     ("away", 7))
+
+    def test_the_word_of_what_is_no_turner(self):
+        for value in (None, (), (0,), (0, 1), (2, 0), (True, 0), [1, 0], (0, 1, 0), "same", -1):
+            self.raises(InvalidPaper, {"word": "turner", "at": -1}, lets_class, samples.SIX, (0, 1), (0, 2), ("same", value))
+        for table in ALL:
+            for x in patterned(table)[::5]:
+                for y in self.others(table, x, 1)[::6]:
+                    if not in_one_class(table, x, y):
+                        self.raises(InvalidPaper, {"word": "turner", "at": -1}, lets_class, table, x, y, ("same", x))
 
     def test_wrong_inputs(self):
         takes = {"table": wrong.table, "thing": wrong.thing, "other": wrong.thing}

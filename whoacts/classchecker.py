@@ -11,6 +11,8 @@ from whoacts.thingwork import turn
 
 # How many values a paper of each form has, its word included.
 SIZES = {"same": 2, "mover": 2, "away": 2, "unlike": 4}
+# What is refused where a paper of each form is not as told: of one form the value that stands there.
+REFUSED = {"same": "turner", "mover": "mover", "away": "away", "unlike": "unlike"}
 
 
 def lets_class(table, thing, other, paper):
@@ -22,7 +24,7 @@ def lets_class(table, thing, other, paper):
     if not has_form(paper):
         raise InvalidPaper("shape", -1)
     if not tells_truly(table, thing, other, paper):
-        raise InvalidPaper(paper[0], -1)
+        raise InvalidPaper(REFUSED[paper[0]], -1)
     return paper[0] == "same"
 
 
