@@ -325,3 +325,48 @@ class Group:
 @functools.lru_cache(maxsize=None)
 def group(table):
     return Group(table)
+
+
+def units(table):
+    """For each prime the thing with the rest 1 there, and 0 at all others."""
+    return tuple(tuple(int(late == prime) for late in table[0]) for prime in table[0])
+
+
+def map_of(table, other, images):
+    """The map, as a dict, that leads the units of a small table to these things of a small one; None if there is none.
+
+    It is found from nought on, by products with units; it leads products to products if it is one for all of these.
+    """
+    first, late = group(table), group(other)
+    steps = [(first.at[unit], late.at[image]) for unit, image in zip(units(table), images)]
+    found = {0: 0}
+    todo = [0]
+    while todo:
+        at = todo.pop()
+        for unit, image in steps:
+            to, value = first.rows[at][unit], late.rows[found[at]][image]
+            if to not in found:
+                found[to] = value
+                todo.append(to)
+            elif found[to] != value:
+                return None
+    return {first.things[at]: late.things[value] for at, value in found.items()}
+
+
+@functools.lru_cache(maxsize=None)
+def all_maps(table, other):
+    """All maps from a small table to a small one, by what the units go to: all tuples of things are tried.
+
+    Of these, things without the order of a unit, or a part of it, are left out at once.
+    """
+    late = group(other)
+    choices = [[y for y in late.things if late.power(y, prime) == late.things[0]] for prime in table[0]]
+    maps = {images: map_of(table, other, images) for images in itertools.product(*choices)}
+    return {images: told for images, told in maps.items() if told is not None}
+
+
+def tells_map(table, other, value):
+    """Whether a value tells a map from a small table to a small one, as [72] says."""
+    if type(value) is not tuple or len(value) != len(table[0]) or not all(is_thing(other, image) for image in value):
+        return False
+    return map_of(table, other, value) is not None

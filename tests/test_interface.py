@@ -47,6 +47,17 @@ FUNCTIONS = {
     "making": "makes(table,things) rows_that_make(table,many) chance_to_make(table,many) fewest_makers(table) "
               "makers_of(table)",
     "rowsmake": "rows_in(table,part,many) rows_by_divisor(table,many)",
+    "covering": "covers(table,parts) how_many_missed(table,parts) missed_thing(table,parts) cover_number(table) "
+                "fewest_cover(table)",
+    "makepapers": "makes_paper(table,things)",
+    "makechecker": "lets_makes(table,things,paper) lets_covers(table,parts,paper)",
+    "maps": "units_of(table) is_map(table,other,value)",
+    "mapping": "mapped(table,other,images,thing) kernel_of(table,other,images) range_of(table,other,images) "
+               "map_behind(table,other,third,images,late)",
+    "likeness": "power_between(table,other,mover) are_alike(table,other) likeness_of(table,other) plain_of(table) "
+                "all_plain(table)",
+    "mapcounts": "how_many_maps(table,other) how_many_into(table,other) how_many_onto(table,other)",
+    "partsalike": "parts_alike(table,other) part_alike(table,other)",
 }
 CLASSES = {
     ("tableclasses", "Table", "(primes,*rows)"): {

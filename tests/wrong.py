@@ -114,6 +114,10 @@ def part(known, value):
     return reference.is_part(known["table"], value)
 
 
+def parts(known, value):
+    return type(value) is tuple and all(part(known, each) for each in value)
+
+
 def whole_part(known, value):
     return part(known, value) and value[1] == ()
 
@@ -169,6 +173,18 @@ def set_of_pairs(_, value):
     return sorted(set(value)) == list(value)
 
 
+def other_table(_, value):
+    return reference.is_table(value)
+
+
+def images(known, value):
+    return reference.tells_map(known["table"], known.get("other", known["table"]), value)
+
+
+def late_images(known, value):
+    return reference.tells_map(known["other"], known["third"], value)
+
+
 def judged(_, value):
     return True
 
@@ -198,6 +214,13 @@ def check_refusals(case, call, args, takes):
             for late in (None, [], True, (value,)):
                 behind = given[:at + 1] + [late] * (len(names) - at - 1)
                 case.raises(NotUsable, fields, call, *behind)
+
+
+def is_refused(case, word, call, *args, **named):
+    """The call raises NotUsable of this parameter."""
+    from whoacts.errors import NotUsable
+
+    case.raises(NotUsable, {"word": word, "at": -1}, call, *args, **named)
 
 
 def check_refused_things(case, call, table, good):

@@ -2,8 +2,7 @@
 
 from whoacts.arithmetic import subsets_of
 from whoacts.classcounts import classes_of, exchanged_pairs
-from whoacts.counts import turning_count
-from whoacts.countwork import count_parts, degrees_in, has_whole_part
+from whoacts.countwork import count_parts, count_turnings, degrees_in, has_whole_part
 from whoacts.orders import orders_of
 from whoacts.tablelooks import pairs_in
 from whoacts.tableneeds import need_table, need_table_beside
@@ -16,7 +15,7 @@ def counts_of(table):
     parts = tuple([(primes, count_parts(table, primes)) for primes in divisors])
     wholes = tuple([(primes, 1) for primes in divisors if has_whole_part(table, primes)])
     return (parts, wholes, orders_of(table), classes_of(table), exchanged_pairs(table), degrees_in(table),
-            turning_count(table))
+            count_turnings(table))
 
 
 def counts_alike(table, other):

@@ -1,8 +1,7 @@
 """Parts, whole parts, degrees and turnings counted."""
 
-from whoacts.arithmetic import product_over, subsets_of
-from whoacts.countwork import count_parts, degrees_in, has_whole_part
-from whoacts.tablelooks import moved_in, movers_in
+from whoacts.arithmetic import subsets_of
+from whoacts.countwork import count_parts, count_turnings, degrees_in, has_whole_part
 from whoacts.tableneeds import need_primes_of, need_table
 
 
@@ -41,5 +40,4 @@ def degrees_of(table):
 def turning_count(table):
     """Return how many turnings the table has."""
     need_table(table)
-    movers = movers_in(table)
-    return product_over([prime - 1 for prime in table[0] if prime not in movers]) * product_over(moved_in(table))
+    return count_turnings(table)

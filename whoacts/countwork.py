@@ -3,7 +3,7 @@
 from whoacts.arithmetic import product_over, subsets_of
 from whoacts.classwork import classes_by_order
 from whoacts.partwork import spot_primes
-from whoacts.tablelooks import movers_in, moving
+from whoacts.tablelooks import moved_in, movers_in, moving
 
 
 def count_parts(table, primes):
@@ -14,6 +14,12 @@ def count_parts(table, primes):
 def has_whole_part(table, primes):
     """Return whether there is a whole part with just these primes."""
     return len(spot_primes(table, primes)) == 0
+
+
+def count_turnings(table):
+    """Return how many turnings a table has."""
+    movers = movers_in(table)
+    return product_over([prime - 1 for prime in table[0] if prime not in movers]) * product_over(moved_in(table))
 
 
 def sums_by_size(pairs):

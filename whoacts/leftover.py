@@ -2,7 +2,7 @@
 
 from whoacts.errors import NotUsable
 from whoacts.partneeds import need_part, need_whole_part
-from whoacts.partwork import put_into
+from whoacts.partwork import has_thing
 from whoacts.tablelooks import cut
 from whoacts.tableneeds import need_table
 from whoacts.thingneeds import is_thing_of, need_thing
@@ -39,7 +39,7 @@ def within_part(table, part, thing):
     """Return the thing of table_of_part that a thing of the part is there."""
     need_table(table)
     need_part(table, part)
-    if not is_thing_of(table, thing) or put_into(table, part, thing) != thing:
+    if not is_thing_of(table, thing) or not has_thing(table, part, thing):
         raise NotUsable("thing", -1)
     return rests_at(table, thing, part[0])
 

@@ -27,6 +27,12 @@ def need_part(table, part, word="part"):
         raise NotUsable(word, -1)
 
 
+def need_tuple_of_parts(table, parts):
+    """Refuse any value that is no tuple of parts of the table."""
+    if not isinstance(parts, tuple) or not all([is_part_of(table, part) for part in parts]):
+        raise NotUsable("parts", -1)
+
+
 def need_whole_part(table, part):
     """Refuse any value that tells no whole part of the table."""
     if not is_part_of(table, part) or not is_whole_part(part):

@@ -2,7 +2,7 @@
 
 from whoacts.arithmetic import product_over
 from whoacts.partneeds import is_part_of, need_part
-from whoacts.partwork import put_into, things_in
+from whoacts.partwork import has_thing, things_in
 from whoacts.tableneeds import need_table
 from whoacts.thingneeds import need_thing
 
@@ -25,7 +25,7 @@ def holds(table, part, thing):
     need_table(table)
     need_part(table, part)
     need_thing(table, thing)
-    return put_into(table, part, thing) == thing
+    return has_thing(table, part, thing)
 
 
 def things_of(table, part):

@@ -27,6 +27,19 @@ def put_into(table, part, thing):
     return tuple(rests)
 
 
+def has_thing(table, part, thing):
+    """Return whether a thing is one of a part."""
+    return put_into(table, part, thing) == thing
+
+
+def first_outside(table, part, things):
+    """Return the least index of a thing, of a tuple of things, that is none of a part; None if there is none."""
+    for k, thing in enumerate(things):
+        if not has_thing(table, part, thing):
+            return k
+    return None
+
+
 def things_in(table, part):
     """Return the set of the things of the part."""
     choices = [()]

@@ -43,12 +43,21 @@ def least_table(primes, web):
 
 def least_root(mover, moved):
     """Return the least root by which one prime can move the other one."""
+    return min(all_roots(mover, moved))
+
+
+def all_roots(mover, moved):
+    """Return the list of the roots by which one prime can move the other one."""
     # All roots are powers of any one of them, and this power of most bases is one.
     base = 2
     while power_modulo(base, (moved - 1) // mover, moved) == 1:
         base += 1
-    first = power_modulo(base, (moved - 1) // mover, moved)
-    roots = [first]
-    while len(roots) < mover - 1:
-        roots.append(roots[-1] * first % moved)
-    return min(roots)
+    return powers_of(power_modulo(base, (moved - 1) // mover, moved), mover, moved)
+
+
+def powers_of(root, mover, moved):
+    """Return the list of the powers of a root by numbers from 1 on, less than the mover."""
+    powers = [root]
+    while len(powers) < mover - 1:
+        powers.append(powers[-1] * root % moved)
+    return powers
