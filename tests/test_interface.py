@@ -58,6 +58,14 @@ FUNCTIONS = {
                 "all_plain(table)",
     "mapcounts": "how_many_maps(table,other) how_many_into(table,other) how_many_onto(table,other)",
     "partsalike": "parts_alike(table,other) part_alike(table,other)",
+    "turnings": "turning_of(table,factors,shifts) told_turning(table,images) inner_by(table,thing) "
+                "is_inner(table,images)",
+    "likepapers": "alike_paper(table,other)",
+    "likechecker": "lets_alike(table,other,paper)",
+    "tableevents": "is_event(value)",
+    "replaying": "is_log(value) replayed(log)",
+    "eventtexts": "event_line(event) log_lines(log)",
+    "eventreadings": "read_event(text) read_log(lines)",
 }
 CLASSES = {
     ("tableclasses", "Table", "(primes,*rows)"): {
@@ -71,6 +79,14 @@ CLASSES = {
     ("countclasses", "Counts", "(table)"): {
         "table_now": None, "counts_now": None, "web_now": None, "many": "()", "unlike": "()", "__getitem__": "(at)",
         "__iter__": "()", "__len__": "()", "__eq__": "(other)"},
+    ("live", "LiveTable", "(table=((),()))"): {
+        "table_now": None, "begun_now": None, "go": "(event)", "prime": "(p)", "move": "(p,q,root)", "drop": "(p,q)",
+        "power": "(p,k)", "note": "(name)", "plain": "()", "chance": "()", "parts": "()", "turnings": "()",
+        "twisted": "(r)", "table_then": "(name)", "alike_then": "(name)", "counts_then": "(name)", "barred": "(event)",
+        "tried": "(*events)", "undo": "()", "do_all": "(*events,keep=False)", "tally": "()", "notes": "()", "log": "()",
+        "__call__": "(event)", "__getitem__": "(at)", "__contains__": "(x)", "__iter__": "()", "__len__": "()",
+        "__eq__": "(other)", "__str__": "()"},
+    ("desk", "Desk", "()"): {"say": "(value)", "tally": "()"},
 }
 
 

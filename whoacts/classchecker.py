@@ -4,6 +4,7 @@ from whoacts.classwork import free_primes, is_away, powers_at, quotient
 from whoacts.errors import InvalidPaper
 from whoacts.exchanging import need_two_things
 from whoacts.kinds import is_integer
+from whoacts.paperwork import word_of
 from whoacts.tablelooks import movers_in
 from whoacts.tableneeds import is_prime_of
 from whoacts.thingneeds import is_thing_of
@@ -30,9 +31,8 @@ def lets_class(table, thing, other, paper):
 
 def has_form(paper):
     """Return whether any value is a tuple of one of the forms, by its word and the number of its values."""
-    if not isinstance(paper, tuple) or len(paper) == 0 or not isinstance(paper[0], str):
-        return False
-    return SIZES.get(paper[0]) == len(paper)
+    word = word_of(paper)
+    return word is not None and SIZES.get(word) == len(paper)
 
 
 def tells_truly(table, thing, other, paper):

@@ -3,7 +3,7 @@
 from whoacts.arithmetic import product_over, subsets_of
 from whoacts.classwork import classes_by_order
 from whoacts.partwork import spot_primes
-from whoacts.tablelooks import moved_in, movers_in, moving
+from whoacts.tablelooks import moved_in, movers_in, moving, unmoving_in
 
 
 def count_parts(table, primes):
@@ -18,8 +18,7 @@ def has_whole_part(table, primes):
 
 def count_turnings(table):
     """Return how many turnings a table has."""
-    movers = movers_in(table)
-    return product_over([prime - 1 for prime in table[0] if prime not in movers]) * product_over(moved_in(table))
+    return product_over([prime - 1 for prime in unmoving_in(table)]) * product_over(moved_in(table))
 
 
 def sums_by_size(pairs):
@@ -34,7 +33,7 @@ def degrees_in(table):
     """Return the set of all pairs (degree, number) of a table."""
     movers = movers_in(table)
     pairs = []
-    for primes in subsets_of([prime for prime in table[0] if prime not in movers]):
+    for primes in subsets_of(unmoving_in(table)):
         degree = product_over(moving(table, primes))
         number = product_over([prime - 1 for prime in primes]) // degree * (product_over(movers) // degree)
         pairs.append((degree, number))

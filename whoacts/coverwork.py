@@ -6,13 +6,13 @@ is a box, a dict of these primes with their values.
 """
 
 from whoacts.arithmetic import product_over, subsets_of
-from whoacts.tablelooks import moved_by, movers_in
+from whoacts.tablelooks import moved_by, movers_in, unmoving_in
 from whoacts.thingwork import factors_at
 
 
 def count_missed(table, parts):
     """Return how many things are in none of the parts."""
-    primes = points_at(table)
+    primes = unmoving_in(table)
     total = 0
     for held in subsets_of(movers_in(table)):
         ways = product_over([mover - 1 for mover in held])
@@ -22,18 +22,12 @@ def count_missed(table, parts):
 
 def find_missed(table, parts):
     """Return a thing that is in none of the parts, None if there is none."""
-    primes = points_at(table)
+    primes = unmoving_in(table)
     for held in subsets_of(movers_in(table)):
         values = find_point(primes, boxes_of(table, parts, held))
         if values is not None:
             return thing_at(table, held, values)
     return None
-
-
-def points_at(table):
-    """Return the list of the primes that are no movers."""
-    movers = movers_in(table)
-    return [prime for prime in table[0] if prime not in movers]
 
 
 def boxes_of(table, parts, held):
@@ -43,7 +37,7 @@ def boxes_of(table, parts, held):
     for primes, spots in parts:
         if all([mover in primes for mover in held]):
             spot_at = dict(spots)
-            outside = [prime for prime in points_at(table) if prime not in primes]
+            outside = [prime for prime in unmoving_in(table) if prime not in primes]
             # Where no mover that is held moves a prime a spot asks for the rest 0, as the factor is 1.
             boxes.append(dict([(prime, spot_at[prime] if prime in swept else 0) for prime in outside]))
     return boxes
@@ -92,7 +86,7 @@ def thing_at(table, held, values):
     """Return a thing at the point of these values, with the rest 1 at each of the movers held."""
     start = [1 if prime in held else 0 for prime in table[0]]
     factors = factors_at(table, start)
-    value_at = dict(zip(points_at(table), values))
+    value_at = dict(zip(unmoving_in(table), values))
     rests = []
     for prime, rest in zip(table[0], start):
         if factors[prime] == 1:

@@ -26,6 +26,22 @@ def row_power(table, other, mover):
 
 def is_alike(table, other):
     """Return whether two tables are alike."""
-    if table[0] != other[0] or movers_in(table) != movers_in(other):
+    if table[0] != other[0] or first_unlike_web(table, other) is not None:
         return False
-    return all([row_power(table, other, mover) is not None for mover in movers_in(table)])
+    return first_unlike_row(table, other) is None
+
+
+def first_unlike_web(table, other):
+    """Return the least prime of the table that does not move the same primes in the other one, None without one."""
+    for prime in table[0]:
+        if moved_in_row(table, prime) != moved_in_row(other, prime):
+            return prime
+    return None
+
+
+def first_unlike_row(table, other):
+    """Return the least mover of the table without a power between its rows, None without one."""
+    for mover in movers_in(table):
+        if row_power(table, other, mover) is None:
+            return mover
+    return None

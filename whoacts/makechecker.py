@@ -3,6 +3,7 @@
 from whoacts.coverwork import count_missed
 from whoacts.errors import InvalidPaper
 from whoacts.kinds import is_pair
+from whoacts.paperwork import word_of
 from whoacts.partneeds import is_part_of, need_tuple_of_parts
 from whoacts.partwork import first_outside, has_thing
 from whoacts.tableneeds import need_table
@@ -26,13 +27,11 @@ def lets_makes(table, things, paper):
 
 def makes_fault(table, things, paper):
     """Return the word and the place of the first thing by which any value is no paper on these things, or None."""
-    if not is_pair(paper) or not isinstance(paper[0], str):
-        return ("shape", -1)
-    word, told = paper
-    if word == "makes" and isinstance(told, tuple):
-        return words_fault(table, things, table[0], told)
-    if word == "within":
-        return within_fault(table, things, told)
+    word = word_of(paper)
+    if word == "makes" and is_pair(paper) and isinstance(paper[1], tuple):
+        return words_fault(table, things, table[0], paper[1])
+    if word == "within" and is_pair(paper):
+        return within_fault(table, things, paper[1])
     return ("shape", -1)
 
 
@@ -60,11 +59,10 @@ def lets_covers(table, parts, paper):
 
 def covers_fault(table, parts, paper):
     """Return the word and the place of the first thing by which any value is no paper on these parts, or None."""
-    if not isinstance(paper, tuple) or len(paper) == 0 or not isinstance(paper[0], str):
-        return ("shape", -1)
-    if paper[0] == "covered" and len(paper) == 1:
+    word = word_of(paper)
+    if word == "covered" and len(paper) == 1:
         return None if count_missed(table, parts) == 0 else ("covered", -1)
-    if paper[0] == "missed" and len(paper) == 2:
+    if word == "missed" and is_pair(paper):
         return missed_fault(table, parts, paper[1])
     return ("shape", -1)
 

@@ -1,7 +1,7 @@
 """Where maps lead things, and which things they lead to nought."""
 
 from whoacts.mapneeds import need_map, need_other_table, need_two_tables
-from whoacts.mapwork import lead, primes_lost
+from whoacts.mapwork import led_to, primes_lost
 from whoacts.partwork import least_part
 from whoacts.thingneeds import need_thing
 
@@ -11,7 +11,7 @@ def mapped(table, other, images, thing):
     need_two_tables(table, other)
     need_map(table, other, images)
     need_thing(table, thing)
-    return lead(table, other, images, thing)
+    return led_to(table, other, images, thing)
 
 
 def kernel_of(table, other, images):
@@ -34,4 +34,4 @@ def map_behind(table, other, third, images, late):
     need_other_table(third, "third")
     need_map(table, other, images)
     need_map(other, third, late, "late")
-    return tuple([lead(other, third, late, image) for image in images])
+    return tuple([led_to(other, third, late, image) for image in images])

@@ -33,7 +33,7 @@ def keeps_relations(table, other, images, prime):
     return True
 
 
-def lead(table, other, images, thing):
+def led_to(table, other, images, thing):
     """Return what a map leads a thing to."""
     movers = movers_in(table)
     steps = list(zip(table[0], images, thing))

@@ -41,6 +41,12 @@ def moved_in(table):
     return moved_by(table, table[0])
 
 
+def unmoving_in(table):
+    """Return the set of the primes that are no movers."""
+    movers = movers_in(table)
+    return tuple([prime for prime in table[0] if prime not in movers])
+
+
 def still_in(table):
     """Return the set of the primes that neither move nor are moved."""
     busy = dict([(prime, True) for prime in movers_in(table) + moved_in(table)])

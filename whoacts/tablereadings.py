@@ -15,10 +15,15 @@ def table_read(text):
     """Return the table that any string writes."""
     if not isinstance(text, str):
         raise NotUsable("text", -1)
+    return read_table(text, None)
+
+
+def read_table(text, most):
+    """Return the table with at most so many primes, however many if most is None, that a string writes."""
     words = text.split(" ")
     if words[0] == NO_PRIMES:
         return read_nothing(words)
-    primes = read_primes(words)
+    primes = read_primes(words, most)
     rows = read_rows(words, primes)
     return with_rows(primes, rows)
 
@@ -30,14 +35,14 @@ def read_nothing(words):
     return ((), ())
 
 
-def read_primes(words):
-    """Return the list of the primes with which the words begin."""
+def read_primes(words, most):
+    """Return the list of the primes, at most so many, with which the words begin."""
     primes = []
     for field, word in enumerate(words):
         if word == BREAK and field > 0:
             return primes
         prime = small_number(word)
-        if not is_prime(prime) or (field > 0 and prime <= primes[-1]):
+        if not is_prime(prime) or (field > 0 and prime <= primes[-1]) or field == most:
             raise InvalidText(0, field)
         primes.append(prime)
     return primes

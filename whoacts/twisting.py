@@ -33,6 +33,11 @@ def twisted_count(table, r):
     """Return how many pairs of things x, y there are for which x y is y to the power r times x."""
     need_table(table)
     need_number(r, "r")
+    return count_twisted(table, r)
+
+
+def count_twisted(table, r):
+    """Return how many pairs of things x, y there are for which x y is y to the power r times x."""
     # Such an x is there for just those y of which the power is of their own class: as many as stay with y.
     powers = dict([(prime, powers_at(table, prime, r % prime)) for prime in table[0]])
     kept = [row[2] for row in classes_by_order(table) if merged([powers[prime] for prime in row[0]]) is not None]
