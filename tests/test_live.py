@@ -444,6 +444,11 @@ class Signs(Live):
         begun = LiveTable(((2, 3, 7), samples.SIX[1]))
         one.prime(7)
         self.same([one == begun, one.table_now == begun.table_now], [False, True])
+        # Two with the same events, but other beginnings.
+        begun.do_all(("prime", 11), ("note", "a"))
+        late = LiveTable(samples.SIX)
+        late.do_all(("prime", 11), ("note", "a"))
+        self.same([late == begun, begun == late, LiveTable() == LiveTable(samples.SIX)], [False] * 3)
         for value in wrong.any_values() + [str(one), one.log()]:
             self.same([one == value, value == one], [False, False])
 

@@ -74,8 +74,9 @@ def find_point(primes, boxes):
         return [] if len(boxes) == 0 else None
     prime = primes[0]
     asked = values_asked(prime, boxes)
-    choices = asked + [value for value in range(len(asked) + 1) if value < prime and value not in asked][:1]
-    for value in choices:
+    # Of the values that no box asks for one does for all.
+    others = [value for value in range(min(prime, len(asked) + 1)) if value not in asked]
+    for value in asked + others[:1]:
         values = find_point(primes[1:], boxes_at(prime, value, boxes))
         if values is not None:
             return [value] + values
